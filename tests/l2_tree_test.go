@@ -488,6 +488,14 @@ func TestP2Order(t *testing.T) {
 	}
 }
 
+func TestP2TheSmallestTreeOfEachCode(t *testing.T) {
+	wantTree(t, impl.Tree{}, 1, 0)
+	wantTree(t, impl.Tree{Nodes: []impl.Node{{Kind: impl.SBlock, Num: 1}}}, 2, 0)
+	wantTree(t, impl.Tree{Nodes: []impl.Node{{Kind: impl.SBreak}, {Kind: impl.SBlock}}}, 3, 1)
+	wantTree(t, impl.Tree{Nodes: []impl.Node{{Kind: impl.SBreak}, {Kind: impl.SBlock, Kids: []int{0, 0}}}}, 3, 1)
+	wantTree(t, chain(101), 4, 0)
+}
+
 func TestP2NodesBelowTwoAreNotGoneThroughTwice(t *testing.T) {
 	x := impl.Tree{Nodes: []impl.Node{{Kind: impl.ENil}}}
 	for i := range 2997 {
@@ -826,6 +834,17 @@ func TestP2TreeOkLeavesItsArgument(t *testing.T) {
 	}
 }
 
+func wantBare(t *testing.T, x impl.Tree) {
+	t.Helper()
+	want := copied(x)
+	for i := range want.Nodes {
+		want.Nodes[i].From, want.Nodes[i].To, want.Nodes[i].Line = 0, 0, 0
+	}
+	if got := impl.Bare(x); !sameTree(got, want) {
+		t.Fatalf("%+v, want %+v", got, want)
+	}
+}
+
 func TestP2Bare(t *testing.T) {
 	var d dice = 4
 	for range 1000 {
@@ -836,13 +855,7 @@ func TestP2Bare(t *testing.T) {
 		for i := range x.Nodes {
 			x.Nodes[i].From, x.Nodes[i].To, x.Nodes[i].Line = d.roll(9)-1, d.roll(9)-1, d.roll(9)-1
 		}
-		want := copied(x)
-		for i := range want.Nodes {
-			want.Nodes[i].From, want.Nodes[i].To, want.Nodes[i].Line = 0, 0, 0
-		}
-		if got := impl.Bare(x); !sameTree(got, want) {
-			t.Fatalf("%+v, want %+v", got, want)
-		}
+		wantBare(t, x)
 	}
 	for _, x := range []impl.Tree{{}, {Nodes: []impl.Node{}}} {
 		if got := impl.Bare(x); len(got.Nodes) != 0 {
@@ -853,13 +866,7 @@ func TestP2Bare(t *testing.T) {
 		{Kind: -5, From: -1, To: -2, Line: -3, Op: -4, Num: -6, Text: "\xff", Names: []string{"", "if"}, Kids: []int{-9, 0, 99}},
 		{Kind: 99, From: 3, Op: 1 << 62, Num: -1 << 63, Names: manyNames(300), Kids: make([]int, 300)},
 	}}
-	want := copied(odd)
-	for i := range want.Nodes {
-		want.Nodes[i].From, want.Nodes[i].To, want.Nodes[i].Line = 0, 0, 0
-	}
-	if got := impl.Bare(odd); !sameTree(got, want) {
-		t.Errorf("%+v", got)
-	}
+	wantBare(t, odd)
 	if got := impl.Bare(broad(9000)); len(got.Nodes) != 9000 {
 		t.Error(len(got.Nodes))
 	}
