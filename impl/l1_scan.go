@@ -195,10 +195,11 @@ func wordKinds() map[string]int {
 	return kinds
 }
 
-// scanner goes over a text from its front. When it is stuck, at is the place of the fault.
+// scanner goes over a text from its front. When it is stuck, at is the place of the fault in the token that begins at from.
 type scanner struct {
 	text  string
 	words map[string]int
+	from  int
 	at    int
 	line  int
 	stuck bool
@@ -228,7 +229,8 @@ scan:
 }
 
 func (s *scanner) token() Token {
-	t := Token{From: s.at, Line: s.line}
+	s.from = s.at
+	t := Token{From: s.from, Line: s.line}
 	switch c := s.text[s.at]; {
 	case isLetter(c):
 		s.readName(&t)
