@@ -8,6 +8,7 @@ import (
 	"loop.example/warp/impl"
 )
 
+// wantNothing fails unless Print gives nothing.
 func wantNothing(t *testing.T, x impl.Tree) {
 	t.Helper()
 	if got := impl.Print(x); got != "" {
@@ -15,19 +16,56 @@ func wantNothing(t *testing.T, x impl.Tree) {
 	}
 }
 
+// behindFn is a tree with a fn ahead of its first statement, and all else, its faults too, as it was.
+func behindFn(x impl.Tree) impl.Tree {
+	if len(x.Nodes) == 0 {
+		return x
+	}
+	var nodes []impl.Node
+	fn := lay(&nodes, withNames(impl.SFn, "f", fnOf("")))
+	for _, n := range copied(x).Nodes {
+		for i, kid := range n.Kids {
+			if kid >= 0 {
+				n.Kids[i] += fn + 1
+			}
+		}
+		nodes = append(nodes, n)
+	}
+	last := &nodes[len(nodes)-1]
+	last.Kids = append([]int{fn}, last.Kids...)
+	return impl.Tree{Nodes: nodes}
+}
+
+// wantUnsound fails unless a tree is not sound, and nothing is given for it, nor for it behind a fn that Outline would tell.
+func wantUnsound(t *testing.T, x impl.Tree) {
+	t.Helper()
+	for _, x := range []impl.Tree{x, behindFn(x)} {
+		if impl.TreeOk(x).Code == 0 {
+			t.Fatalf("a sound tree of %d nodes: %+v", len(x.Nodes), x)
+		}
+		wantNothing(t, x)
+		if got := impl.Dump(x); got != "" {
+			t.Fatalf("Dump of a tree of %d nodes: %d bytes, want none: %.200q", len(x.Nodes), len(got), got)
+		}
+		if got := impl.Outline(x); len(got) != 0 {
+			t.Fatalf("Outline of a tree of %d nodes: %+v, want nothing", len(x.Nodes), got)
+		}
+	}
+}
+
 func TestP10NothingForTheFaultsOfTheList(t *testing.T) {
-	wantNothing(t, impl.Tree{})
-	wantNothing(t, impl.Tree{Nodes: []impl.Node{}})
+	wantUnsound(t, impl.Tree{})
+	wantUnsound(t, impl.Tree{Nodes: []impl.Node{}})
 	wantComesBack(t, broad(3000))
-	wantNothing(t, broad(3001))
-	wantNothing(t, broad(9000))
+	wantUnsound(t, broad(3001))
+	wantUnsound(t, broad(9000))
 	for _, r := range treeRows {
 		if r.node.Kind != impl.SBlock {
-			wantNothing(t, listed(r.with(r.good[0])))
+			wantUnsound(t, listed(r.with(r.good[0])))
 		}
 	}
 	for _, k := range []int{-1 << 63, -1, 0, 17, 19, 38, 43, 1<<63 - 1} {
-		wantNothing(t, impl.Tree{Nodes: []impl.Node{{Kind: impl.SBreak}, {Kind: k, Kids: []int{0}}}})
+		wantUnsound(t, impl.Tree{Nodes: []impl.Node{{Kind: impl.SBreak}, {Kind: k, Kids: []int{0}}}})
 	}
 }
 
@@ -36,7 +74,7 @@ func TestP10NothingForTheFaultsOfANode(t *testing.T) {
 	for _, r := range treeRows {
 		for _, kids := range r.wrong {
 			x, _ := held(r.with(kids))
-			wantNothing(t, x)
+			wantUnsound(t, x)
 		}
 		good, place := held(r.with(r.good[0]))
 		if impl.Print(good) == "" && len(good.Nodes) > 1 {
@@ -67,7 +105,7 @@ func TestP10NothingForTheFaultsOfANode(t *testing.T) {
 			if impl.TreeOk(x).Code == 0 {
 				t.Fatalf("%s: the tree is sound: %+v", name, x)
 			}
-			wantNothing(t, x)
+			wantUnsound(t, x)
 		}
 		for i := range min(len(r.good[0]), 4) {
 			for _, k := range everyKind {
@@ -75,19 +113,19 @@ func TestP10NothingForTheFaultsOfANode(t *testing.T) {
 					x := r.with(r.good[0])
 					x.below[i] = sample(k)
 					wrong, _ := held(x)
-					wantNothing(t, wrong)
+					wantUnsound(t, wrong)
 				}
 			}
 		}
 	}
-	wantNothing(t, text(setOf(0, aName, bName)))
-	wantNothing(t, text(setOf(2, aName, bName)))
-	wantNothing(t, text(setOf(-1, aName, bName)))
-	wantNothing(t, text(throwOf(callOf(restOf))))
-	wantNothing(t, text(throwOf(fieldOf(restOf, "a"))))
-	wantNothing(t, text(throwOf(indexOf(restOf, aName))))
-	wantNothing(t, text(throwOf(oneOf(aName))))
-	wantNothing(t, text(doOf(oneOf(fCall))))
+	wantUnsound(t, text(setOf(0, aName, bName)))
+	wantUnsound(t, text(setOf(2, aName, bName)))
+	wantUnsound(t, text(setOf(-1, aName, bName)))
+	wantUnsound(t, text(throwOf(callOf(restOf))))
+	wantUnsound(t, text(throwOf(fieldOf(restOf, "a"))))
+	wantUnsound(t, text(throwOf(indexOf(restOf, aName))))
+	wantUnsound(t, text(throwOf(oneOf(aName))))
+	wantUnsound(t, text(doOf(oneOf(fCall))))
 }
 
 func TestP10NothingForNodesOutOfOrder(t *testing.T) {
@@ -105,16 +143,16 @@ func TestP10NothingForNodesOutOfOrder(t *testing.T) {
 			if impl.TreeOk(x).Code != 3 {
 				t.Fatalf("%+v has another fault", x)
 			}
-			wantNothing(t, x)
+			wantUnsound(t, x)
 		}
 	}
-	wantNothing(t, impl.Tree{Nodes: []impl.Node{{Kind: impl.SBreak}, {Kind: impl.SBlock}}})
+	wantUnsound(t, impl.Tree{Nodes: []impl.Node{{Kind: impl.SBreak}, {Kind: impl.SBlock}}})
 }
 
 func TestP10NothingForNodesTooDeep(t *testing.T) {
 	wantComesBack(t, chain(100))
-	wantNothing(t, chain(101))
-	wantNothing(t, chain(2990))
+	wantUnsound(t, chain(101))
+	wantUnsound(t, chain(2990))
 }
 
 func TestP10SpoiltTreesOfChance(t *testing.T) {
@@ -131,7 +169,7 @@ func TestP10SpoiltTreesOfChance(t *testing.T) {
 		code := slowFault(x).Code
 		seen[code]++
 		if code != 0 {
-			wantNothing(t, x)
+			wantUnsound(t, x)
 		} else {
 			wantComesBack(t, x)
 		}
